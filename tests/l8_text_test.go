@@ -320,24 +320,46 @@ func TestTextExample(t *testing.T) {
 	}
 }
 
+// spaced are texts of a line with spaces at its ends and between its words, and lines without words ahead and behind.
+func spaced(line string) []string {
+	wide := strings.ReplaceAll(line, " ", "   ")
+	return []string{" " + line, line + " ", "   " + wide + "     ", wide, "\n" + line, "\n\n   \n" + wide + "\n \n\n", line + "\n\n", line + "\n ", " \n" + line + " \n ", line + "\n\n\n\n"}
+}
+
+// spacedTwo are such texts of two lines.
+func spacedTwo(line, other string) []string {
+	wide := strings.ReplaceAll(line, " ", "   ")
+	return []string{line + "\n" + other, wide + " \n  " + other + "\n", "\n" + line + "\n\n\n" + other + "\n\n", "  \n" + wide + "\n    \n" + other + "  "}
+}
+
+// wordless are texts without words, of at most so many bytes.
+func wordless(size int) []string {
+	return []string{"", " ", "\n", "    ", "\n\n\n", " \n", "\n ", " \n  \n\n   \n", strings.Repeat(" ", size), strings.Repeat("\n", size), strings.Repeat(" \n", size/2)}
+}
+
+// padded are texts of so many bytes, filled up with this ahead of a text, and behind it.
+func padded(text, with string, size int) []string {
+	count := (size - len(text)) / len(with)
+	rest := strings.Repeat(" ", size-len(text)-count*len(with))
+	return []string{rest + strings.Repeat(with, count) + text, text + strings.Repeat(with, count) + rest}
+}
+
 // Spaces and lines without words count for nothing, wherever they stand.
 func TestSpacesAndEmptyLines(t *testing.T) {
 	for i, w := range writtenRungs() {
 		other := writtenRungs()[(i+1)%len(writtenRungs())]
-		one, two := []impl.Arm{w.rung}, []impl.Arm{w.rung, other.rung}
-		wide := strings.ReplaceAll(w.line, " ", "   ")
-		for _, text := range []string{" " + w.line, w.line + " ", "   " + wide + "     ", wide, "\n" + w.line, "\n\n   \n" + wide + "\n \n\n", w.line + "\n\n", w.line + "\n ", " \n" + w.line + " \n "} {
-			checkTextRead(t, text, one)
+		for _, text := range spaced(w.line) {
+			checkTextRead(t, text, []impl.Arm{w.rung})
 		}
-		for _, text := range []string{w.line + "\n" + other.line, wide + " \n  " + other.line + "\n", "\n" + w.line + "\n\n\n" + other.line + "\n\n", "  \n" + wide + "\n    \n" + other.line + "  "} {
-			checkTextRead(t, text, two)
+		for _, text := range spacedTwo(w.line, other.line) {
+			checkTextRead(t, text, []impl.Arm{w.rung, other.rung})
 		}
 	}
 }
 
 // Without words there is no rung, and no fault.
 func TestTextsWithoutWords(t *testing.T) {
-	for _, text := range []string{"", " ", "\n", "    ", "\n\n\n", " \n", "\n ", " \n  \n\n   \n", strings.Repeat(" ", 16000), strings.Repeat("\n", 16000), strings.Repeat(" \n", 8000)} {
+	for _, text := range wordless(16000) {
 		rungs, f := impl.TextRead(text)
 		if len(rungs) != 0 || f != (impl.TextFault{}) {
 			t.Errorf("%s: %v and %v", brief(text), rungs, f)
@@ -354,11 +376,6 @@ func TestTextsWithoutWords(t *testing.T) {
 // P28 at the bound of bytes; with too many of them nothing else is told.
 func TestTextMaxText(t *testing.T) {
 	good := []impl.Arm{armOf(contactOf("X0"), "out:Y0")}
-	padded := func(text, with string, size int) []string {
-		count := (size - len(text)) / len(with)
-		rest := strings.Repeat(" ", size-len(text)-count*len(with))
-		return []string{rest + strings.Repeat(with, count) + text, text + strings.Repeat(with, count) + rest}
-	}
 	for _, with := range []string{" ", "\n", "  \n", " \n\n"} {
 		for _, text := range append(padded("X0 -> out:Y0", with, 16000), padded("X0 -> out:Y0\n", with, 15999)...) {
 			checkTextRead(t, text, good)
@@ -639,18 +656,27 @@ func textAt(line string, place, count int, good string) (string, int) {
 	return strings.Join(lines, "\n"), at
 }
 
+// textsAt are texts with this line as the first, a middle and the last of several, and its number in each.
+func textsAt(line, good string) map[string]int {
+	texts := map[string]int{}
+	for _, count := range []int{2, 3, 7} {
+		for _, place := range []int{1, count/2 + 1, count} {
+			text, at := textAt(line, place, count, good)
+			texts[text] = at
+		}
+	}
+	return texts
+}
+
 // checkLine asks for a code of a line as the first, a middle and the last of several.
 func checkLine(t *testing.T, line string, code int) {
 	t.Helper()
 	checkTextFault(t, line, 1, code)
 	checkTextFault(t, "  "+line+" \n", 1, code)
 	checkTextFault(t, "\n \n"+line, 3, code)
-	for _, count := range []int{2, 3, 7} {
-		for _, place := range []int{1, count/2 + 1, count} {
-			text, at := textAt(line, place, count, "X0 -> out:Y0 [ -> set:M1 ]")
-			checkTextFault(t, text, at, code)
-			checkTextFault(t, text+"\n", at, code)
-		}
+	for text, at := range textsAt(line, "X0 -> out:Y0 [ -> set:M1 ]") {
+		checkTextFault(t, text, at, code)
+		checkTextFault(t, text+"\n", at, code)
 	}
 }
 
@@ -816,17 +842,23 @@ func TestChangedLines(t *testing.T) {
 	}
 }
 
+// spoilt are texts that are cut, or have a byte taken out, changed or put in: one of these, a space, a newline or an odd one.
+func spoilt(text string, with ...string) []string {
+	list := []string{}
+	for i := range len(text) {
+		list = append(list, text[:i], text[i:], text[:i]+text[i+1:])
+		for _, odd := range append([]string{" ", "\n", "\t", "\x00", "\xff"}, with...) {
+			list = append(list, text[:i]+odd+text[i:], text[:i]+odd+text[i+1:])
+		}
+	}
+	return list
+}
+
 // P28 of texts that are cut, or have a byte changed, put in or taken out.
 func TestSpoiltTexts(t *testing.T) {
 	text := "and( X0 or( X1 /M2 ) ) -> out:Y0 [ +X3:E1 -> timer:T1,50 | -> move:D0,5 ]\nT1 -> set:Y1\n"
-	for i := range len(text) {
-		checkText(t, text[:i])
-		checkText(t, text[i:])
-		checkText(t, text[:i]+text[i+1:])
-		for _, with := range []string{" ", "\n", "\t", "\x00", "\xff", "0", "X", "(", ")", "[", "]", "|", "-", ">", ":", ","} {
-			checkText(t, text[:i]+with+text[i:])
-			checkText(t, text[:i]+with+text[i+1:])
-		}
+	for _, other := range spoilt(text, "0", "X", "(", ")", "[", "]", "|", "-", ">", ":", ",") {
+		checkText(t, other)
 	}
 }
 
