@@ -786,7 +786,43 @@ func TestListSameOfLongLists(t *testing.T) {
 	}
 }
 
-// What is read is new memory: no two of its lists share any, not even in their spare room, and no later answer sees what was written into it.
+// checkOwnMemory asks that no two of these lists, nor of those in them, share any memory, not even in their spare room; it writes into all of them.
+func checkOwnMemory(t *testing.T, lists ...[]impl.Inst) {
+	t.Helper()
+	want := [][]impl.Inst{}
+	for _, list := range lists {
+		want = append(want, cloneInsts(list))
+	}
+	for _, list := range lists {
+		for i := len(list); i < cap(list); i++ {
+			list[:cap(list)][i] = instSure(10, "out:Y9")
+		}
+		for _, i := range list {
+			for j := len(i.One.Args); j < cap(i.One.Args); j++ {
+				i.One.Args[:cap(i.One.Args)][j] = operand(1, 9, 0)
+			}
+		}
+	}
+	if !slices.EqualFunc(lists, want, sameInsts) {
+		t.Errorf("lists share their spare room: %v", lists)
+	}
+	number := 0
+	for at, list := range lists {
+		for i := range list {
+			number++
+			list[i].Code, want[at][i].Code = number, number
+			for j := range list[i].One.Args {
+				number++
+				list[i].One.Args[j], want[at][i].One.Args[j] = operand(1, number, 0), operand(1, number, 0)
+			}
+		}
+	}
+	if !slices.EqualFunc(lists, want, sameInsts) {
+		t.Errorf("lists share memory: %v", lists)
+	}
+}
+
+// What is read is new memory, and no later answer sees what was written into it.
 func TestListParseIsNewMemory(t *testing.T) {
 	text := ""
 	for _, w := range writtenInsts() {
@@ -794,36 +830,10 @@ func TestListParseIsNewMemory(t *testing.T) {
 	}
 	want, _ := listOf(text)
 	list, _ := impl.ListParse(text)
-	for i := len(list); i < cap(list); i++ {
-		list[:cap(list)][i] = instSure(10, "out:Y9")
-	}
-	for _, i := range list {
-		for j := len(i.One.Args); j < cap(i.One.Args); j++ {
-			i.One.Args[:cap(i.One.Args)][j] = operand(1, 9, 0)
-		}
-	}
 	if !sameInsts(list, want) {
-		t.Errorf("lists share their spare room: %v", list)
+		t.Errorf("read as %v", list)
 	}
-	number := 0
-	for _, i := range list {
-		for j := range i.One.Args {
-			i.One.Args[j] = operand(1, number, 0)
-			number++
-		}
-	}
-	number = 0
-	for _, i := range list {
-		for _, a := range i.One.Args {
-			if a != operand(1, number, 0) {
-				t.Errorf("operand %d is shared", number)
-			}
-			number++
-		}
-	}
-	for i := range list {
-		list[i] = impl.Inst{}
-	}
+	checkOwnMemory(t, list)
 	checkListRead(t, text, want)
 }
 
