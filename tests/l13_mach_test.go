@@ -924,6 +924,10 @@ func looseLists(seed int64, count int) [][]impl.Inst {
 	r, ones, lists := rand.New(rand.NewSource(seed)), looseOnes(), [][]impl.Inst{}
 	for at := range count {
 		list := []impl.Inst{}
+		if at%4 == 0 {
+			// Nearly full stacks, which lists by chance hardly come to.
+			list = instsOf(repeated("ld", 14+r.Intn(3)) + repeated("mps", 6+r.Intn(3)))
+		}
 		for range r.Intn(40) {
 			i := impl.Inst{Code: r.Intn(14) - 1, One: ones[r.Intn(len(ones))]}
 			if r.Intn(30) == 0 {
@@ -965,7 +969,7 @@ func TestScansWhereWatchDoesNotStop(t *testing.T) {
 		}
 	}
 	for code := range 4 {
-		if stops[code] < 20 && code != 2 {
+		if stops[code] < 20 {
 			t.Errorf("code %d is told %d times: %v", code, stops[code], stops)
 		}
 	}
