@@ -897,6 +897,17 @@ func TestEvalWritesIntoNothing(t *testing.T) {
 	}
 }
 
+// checkRunning asks that no more goroutines run than so many that ran ahead of the calls; those that end get some time for it.
+func checkRunning(t *testing.T, ahead int) {
+	t.Helper()
+	for i := 0; runtime.NumGoroutine() > ahead; i++ {
+		if i == 1000 {
+			t.Fatalf("%d run behind the calls, %d ran ahead of them", runtime.NumGoroutine(), ahead)
+		}
+		time.Sleep(time.Millisecond)
+	}
+}
+
 // Calls at the same time answer as each alone does, and leave nothing running behind them.
 func TestEvalAtTheSameTime(t *testing.T) {
 	running := runtime.NumGoroutine()
@@ -919,10 +930,5 @@ func TestEvalAtTheSameTime(t *testing.T) {
 		}
 	}
 	joined.Wait()
-	for i := 0; runtime.NumGoroutine() > running; i++ {
-		if i == 1000 {
-			t.Fatalf("%d run behind the calls, %d ran ahead of them", runtime.NumGoroutine(), running)
-		}
-		time.Sleep(time.Millisecond)
-	}
+	checkRunning(t, running)
 }

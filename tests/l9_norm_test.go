@@ -652,8 +652,8 @@ func armShapes(kids [][]impl.Arm) []impl.Arm {
 	return list
 }
 
-// P29, P30 and P31 of each small rung of three arms one behind the other, with and without others beside them.
-func TestNormOfEachArm(t *testing.T) {
+// threeArms is each small rung of three arms one behind the other, with and without others beside them.
+func threeArms() []impl.Arm {
 	some := armOf(contactOf("X0"), "out:Y0")
 	leaves := armShapes([][]impl.Arm{nil})
 	lists := [][]impl.Arm{nil}
@@ -665,11 +665,13 @@ func TestNormOfEachArm(t *testing.T) {
 	for _, a := range middle {
 		lists = append(lists, []impl.Arm{a}, []impl.Arm{armOf(impl.Net{}, "out:Y0"), a})
 	}
+	return slices.DeleteFunc(armShapes(lists), func(rung impl.Arm) bool { return isNone(rung.Net) })
+}
+
+// P29, P30 and P31 of each small rung of three arms one behind the other.
+func TestNormOfEachArm(t *testing.T) {
 	met := 0
-	for _, rung := range armShapes(lists) {
-		if isNone(rung.Net) {
-			continue
-		}
+	for _, rung := range threeArms() {
 		met++
 		checkNorm(t, numbered([]impl.Arm{rung}))
 	}
